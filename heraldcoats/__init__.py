@@ -1,0 +1,1 @@
+"""A herald's coats: marked, quartered, impaled, on an escutcheon."""
