@@ -3,8 +3,8 @@
 import unittest
 
 from heraldcoats.coats import check
-from tests.build import (allowed_in, arms, bytes_of, coat_of, group, impaled, marked, ordinary, parted, plain,
-                         pretence, quarterly, varied)
+from tests.helper import (allowed_in, arms, bytes_of, coat_of, group, impaled, marked, ordinary, parted, plain,
+                          pretence, quarterly, varied)
 
 
 def four_deep():

@@ -1,8 +1,10 @@
-"""Builds coats for the tests.
+"""Builds coats for the tests, and looks at their points.
 
 A coat is built as a list of cells. A cell is a byte and what could stand in its place, behind the bytes before it:
 a list of numbers, or, for the first byte of a coat, how deep that coat stands in the whole (from 1).
 """
+
+from heraldcoats.coats import at
 
 TINCTURES = list(range(9))
 LINES = list(range(6))
@@ -93,3 +95,40 @@ def impaled(dexter, sinister):
 
 def pretence(below, upon):
     return [(3, 1)] + inside(below) + inside(upon)
+
+
+WAVE = [0, 2, 4, 6, 7, 8, 9, 10, 11, 12, 12, 12, 12, 12, 12, 12, 11, 10, 9, 8, 7, 6, 4, 2]
+SCALLOP = [12, 8, 4, 1, -2, -4, -6, -8, -10, -11, -12, -12, -12, -12, -12, -11, -10, -8, -6, -4, -2, 1, 4, 8]
+# Each line's s(t), written out over 48 steps.
+OFFSETS = [
+    [0] * 48,
+    WAVE + [-s for s in WAVE],
+    [12] * 24 + [-12] * 24,
+    list(range(-12, 12)) + list(range(12, -12, -1)),
+    SCALLOP * 2,
+    [-s for s in SCALLOP] * 2,
+]
+
+
+def lying_off(line):
+    """The line's s, as a function of t."""
+    return lambda t: OFFSETS[line][t % 48]
+
+
+def cross_cut(rows, columns):
+    """All points of some rows and of some columns of the shield."""
+    return [(p, r) for r in rows for p in range(480)] + [(p, r) for p in columns for r in range(576)]
+
+
+CUT = cross_cut((0, 31, 100, 289, 430, 575), (0, 17, 150, 241, 333, 479))
+
+
+def wrong_points(cells, expected, points):
+    """The points where the coat has another tincture than expected(p, r), with what was answered."""
+    numbers = bytes_of(cells)
+    return [(p, r, at(p, r, numbers)) for p, r in points if at(p, r, numbers) != [expected(p, r)]]
+
+
+def tincture_at(cells, point):
+    answer = at(point[0], point[1], bytes_of(cells))
+    return answer[0] if len(answer) == 1 else answer
