@@ -1,23 +1,35 @@
 """The calls: each stands by itself and answers one list of whole numbers."""
 
 from heraldcoats.decode import Misplaced, decode
-from heraldcoats.parts import coat_tincture
+from heraldcoats.parts import marked_tincture, part_spot
 from heraldcoats.points import HEIGHT, WIDTH
 
 
-def check(c):
-    try:
-        decode(c)
-    except Misplaced as fault:
-        return [-1, fault.place]
-    return [0]
-
-
-def at(p, r, c):
+def answered(c, tell):
     try:
         coat = decode(c)
     except Misplaced as fault:
         return [-1, fault.place]
-    if p >= WIDTH or r >= HEIGHT:
-        return [-2]
-    return [coat_tincture(coat, p, r)]
+    return tell(coat)
+
+
+# The point is looked at once the coat has been taken in, since -1 comes first of all.
+def answered_at(p, r, c, tell):
+    def tell_point(coat):
+        if p >= WIDTH or r >= HEIGHT:
+            return [-2]
+        return tell(part_spot(coat, p, r))
+
+    return answered(c, tell_point)
+
+
+def check(c):
+    return answered(c, lambda coat: [0])
+
+
+def at(p, r, c):
+    return answered_at(p, r, c, lambda spot: [marked_tincture(spot.coat, spot.p, spot.r)])
+
+
+def part(p, r, c):
+    return answered_at(p, r, c, lambda spot: [spot.number, spot.p, spot.r])

@@ -1,4 +1,4 @@
-"""The parts of a coat, as they are once its bytes have been taken in."""
+"""What coats are made of, as it is once their bytes have been taken in."""
 
 
 class Plain:

@@ -78,6 +78,13 @@ def coat_of(tincture):
     return marked(arms(plain(tincture)))
 
 
+def busy(k):
+    """Coats that differ from one another and have many edges."""
+    field = parted(7, k % 6, k % 9, (k + 1) % 9)
+    mullets = group((k + 6) % 16, 5, 0, 3, varied(5, 9 + k, 0, (k + 2) % 9, (k + 3) % 9))
+    return marked(arms(field, mullets), arms(varied(k % 5, 7, 1, (k + 4) % 9, (k + 5) % 9)), [(k, 3 * k + 1)] * 5)
+
+
 def inside(cells):
     return [(byte, allowed + 1) if isinstance(allowed, int) else (byte, allowed) for byte, allowed in cells]
 
@@ -95,6 +102,16 @@ def impaled(dexter, sinister):
 
 def pretence(below, upon):
     return [(3, 1)] + inside(below) + inside(upon)
+
+
+def parts_of(cells):
+    """The bytes of each part, in the order in which they're told."""
+    parts = []
+    for byte, allowed in cells:
+        if isinstance(allowed, int):
+            parts.append([])
+        parts[-1].append(byte)
+    return [part for part in parts if part[0] == 0]
 
 
 WAVE = [0, 2, 4, 6, 7, 8, 9, 10, 11, 12, 12, 12, 12, 12, 12, 12, 11, 10, 9, 8, 7, 6, 4, 2]

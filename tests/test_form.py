@@ -15,7 +15,7 @@ NODES = tuple(getattr(ast, name) for name in """Module ImportFrom alias Function
     AugAssign For While If Raise Try ExceptHandler Expr Pass Break Continue BoolOp And Or BinOp Add Sub Mult FloorDiv
     Mod Pow LShift RShift BitOr BitXor BitAnd UnaryOp Invert Not UAdd USub IfExp Dict List Tuple ListComp comprehension
     Compare Eq NotEq Lt LtE Gt GtE Is IsNot In NotIn Call keyword JoinedStr FormattedValue Constant Attribute Subscript
-    Name Slice Load Store""".split())
+    Name Slice Load Store Lambda""".split())
 WORDS = re.compile(r"\b(type|typing|typing_extensions|enum|Enum|IntEnum|StrEnum|Flag|IntFlag|Generic|Protocol|ABC|"
                    r"ABCMeta|namedtuple|NamedTuple|TypedDict|TYPE_CHECKING|abstractmethod)\b|"
                    r"dataclass|overload|contextmanager")

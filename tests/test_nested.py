@@ -3,15 +3,8 @@
 import unittest
 
 from heraldcoats.coats import at
-from tests.helper import (arms, bytes_of, coat_of, cross_cut, group, impaled, marked, parted, plain, pretence,
-                          quarterly, tincture_at, varied)
-
-
-def busy(k):
-    """Coats that differ from one another and have many edges."""
-    field = parted(7, k % 6, k % 9, (k + 1) % 9)
-    mullets = group((k + 6) % 16, 5, 0, 3, varied(5, 9 + k, 0, (k + 2) % 9, (k + 3) % 9))
-    return marked(arms(field, mullets), arms(varied(k % 5, 7, 1, (k + 4) % 9, (k + 5) % 9)), [(k, 3 * k + 1)] * 5)
+from tests.helper import (arms, busy, bytes_of, coat_of, cross_cut, impaled, marked, plain, pretence, quarterly,
+                          tincture_at)
 
 
 class Quarterly(unittest.TestCase):
