@@ -1,6 +1,7 @@
 """The calls: each stands by itself and answers one list of whole numbers."""
 
 from heraldcoats.decode import Misplaced, decode
+from heraldcoats.nesting import depth_of, parts_in
 from heraldcoats.parts import marked_tincture, part_spot
 from heraldcoats.points import HEIGHT, WIDTH
 
@@ -33,3 +34,7 @@ def at(p, r, c):
 
 def part(p, r, c):
     return answered_at(p, r, c, lambda spot: [spot.number, spot.p, spot.r])
+
+
+def count(c):
+    return answered(c, lambda coat: [parts_in(coat), depth_of(coat)])

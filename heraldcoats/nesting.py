@@ -1,4 +1,4 @@
-"""Coats within coats: which there are, and how many parts they have."""
+"""Coats within coats: which there are, how many parts they have, how deep they go."""
 
 from heraldcoats.model import Impaled, Marked, Quarterly
 
@@ -18,3 +18,7 @@ def parts_in(coat):
     if isinstance(coat, Marked):
         return 1
     return sum([parts_in(inner) for inner in coats_in(coat)])
+
+
+def depth_of(coat):
+    return 1 + max([depth_of(inner) for inner in coats_in(coat)], default=0)
