@@ -4,6 +4,7 @@ from heraldcoats.decode import Misplaced, decode
 from heraldcoats.nesting import depth_of, parts_in
 from heraldcoats.parts import marked_tincture, part_spot
 from heraldcoats.points import HEIGHT, WIDTH
+from heraldcoats.wording import coat_words
 
 
 def answered(c, tell):
@@ -24,6 +25,10 @@ def answered_at(p, r, c, tell):
     return answered(c, tell_point)
 
 
+def counted(numbers):
+    return [len(numbers)] + numbers
+
+
 def check(c):
     return answered(c, lambda coat: [0])
 
@@ -38,3 +43,7 @@ def part(p, r, c):
 
 def count(c):
     return answered(c, lambda coat: [parts_in(coat), depth_of(coat)])
+
+
+def words(c):
+    return answered(c, lambda coat: counted([ord(sign) for sign in coat_words(coat)]))
