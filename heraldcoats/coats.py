@@ -1,9 +1,12 @@
 """The calls: each stands by itself and answers one list of whole numbers."""
 
 from heraldcoats.decode import Misplaced, decode
+from heraldcoats.encode import coat_bytes
+from heraldcoats.faults import Misread
 from heraldcoats.nesting import depth_of, parts_in
 from heraldcoats.parts import marked_tincture, part_spot
 from heraldcoats.points import HEIGHT, WIDTH
+from heraldcoats.reading import read_words
 from heraldcoats.wording import coat_words
 
 
@@ -47,3 +50,11 @@ def count(c):
 
 def words(c):
     return answered(c, lambda coat: counted([ord(sign) for sign in coat_words(coat)]))
+
+
+def read(t):
+    try:
+        coat = read_words(t)
+    except Misread as fault:
+        return [-fault.kind, fault.place]
+    return counted(coat_bytes(coat))

@@ -1,17 +1,13 @@
 """From a coat's bytes to the coat, or to the first byte that can't stand where it does."""
 
+from heraldcoats.bounds import (FEWEST_PIECES, FEWEST_QUARTERS, FIRST_STRAIGHT_WAY, LEAST_K, MOST_DEEP, MOST_G, MOST_K,
+                                MOST_LAYERS, MOST_MARKS, MOST_PIECES, MOST_QUARTERS)
 from heraldcoats.model import Plain, Parted, Varied, Ordinary, Group, Arms, Mark, Marked, Quarterly, Impaled, Pretence
-
-MOST_LAYERS = 8
-MOST_MARKS = 60
-MOST_DEEP = 4
 
 LAST_TINCTURE = 8
 LAST_LINE = 5
 LAST_PARTED_WAY = 7
 LAST_VARIED_WAY = 6
-# From this way on (chequy, lozengy) a varied field is straight alone.
-FIRST_STRAIGHT_WAY = 5
 LAST_ORDINARY = 12
 LAST_CHARGE = 15
 LAST_MANNER = 6
@@ -66,7 +62,7 @@ def take_parted(reader):
 
 def take_varied(reader):
     way = reader.take(0, LAST_VARIED_WAY)
-    pieces = reader.take(2, 24)
+    pieces = reader.take(FEWEST_PIECES, MOST_PIECES)
     line = reader.take(0, LAST_LINE if way < FIRST_STRAIGHT_WAY else 0)
     first = reader.take(0, LAST_TINCTURE)
     return Varied(way, pieces, line, first, reader.take_tincture_beside(first))
@@ -104,8 +100,8 @@ def take_arms(reader):
 def take_marks(reader):
     marks = []
     for slot in range(reader.take(0, MOST_MARKS)):
-        g = reader.take(0, 127)
-        marks.append(Mark(g, reader.take(1, 255)))
+        g = reader.take(0, MOST_G)
+        marks.append(Mark(g, reader.take(LEAST_K, MOST_K)))
     return marks
 
 
@@ -134,7 +130,7 @@ def take_coat(reader, depth):
 
 def take_quarterly(reader, depth):
     coats = []
-    for k in range(reader.take(2, 9)):
+    for k in range(reader.take(FEWEST_QUARTERS, MOST_QUARTERS)):
         coats.append(take_coat(reader, depth + 1))
     return Quarterly(coats)
 

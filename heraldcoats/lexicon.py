@@ -1,7 +1,7 @@
 """The words of the tables, each in the place of its number."""
 
 TINCTURES = ("or", "argent", "gules", "azure", "sable", "vert", "purpure", "ermine", "vair")
-# An empty text stands in the place of what no word says: straight, the size 3, by rows.
+# An empty text stands in the place of what no word says: straight, by rows, of the usual size.
 LINES = ("", "wavy", "embattled", "indented", "engrailed", "invected")
 PARTED_WAYS = ("per pale", "per fess", "per bend", "per bend sinister", "per chevron", "per saltire", "quarterly",
                "gyronny")
@@ -16,6 +16,10 @@ SIZES = ("small", "lesser", "", "great")
 COUNTS = ("two", "three", "four", "five", "six", "seven", "eight", "nine", "ten")
 FIRST_SIZE = 1
 FIRST_COUNT = 2
+
+STRAIGHT = 0
+BY_ROWS = 0
+USUAL_SIZE = 3
 
 
 # Goes by the word right behind it, be that a size or a charge.

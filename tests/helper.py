@@ -4,7 +4,7 @@ A coat is built as a list of cells. A cell is a byte and what could stand in its
 a list of numbers, or, for the first byte of a coat, how deep that coat stands in the whole (from 1).
 """
 
-from heraldcoats.coats import at
+from heraldcoats.coats import at, read
 
 TINCTURES = list(range(9))
 LINES = list(range(6))
@@ -276,3 +276,11 @@ def said_nested(ones):
                 said += [outer(ones[8], middle(ones[9], inner(ones[10], ones[0]))),
                          outer(middle(inner(ones[1], ones[2]), ones[3]), ones[4])]
     return said
+
+
+class Faults:
+    """For test cases: texts that read refuses; a ^, itself no part of them, stands before the fault's place."""
+
+    def tells(self, kind, text):
+        self.assertEqual(text.count("^"), 1, text)
+        self.assertEqual(read(signs(text.replace("^", ""))), [-kind, text.index("^")], text)

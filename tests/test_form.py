@@ -89,3 +89,33 @@ class Form(unittest.TestCase):
                     self.assertNotIn(node.arg, top, f"{path}:{node.lineno}")
                 if isinstance(node, ast.Name) and isinstance(node.ctx, ast.Store):
                     self.assertNotIn(node.id, top, f"{path}:{node.lineno}")
+
+    def test_the_interface_is_written_in_its_own_file_alone(self):
+        interface = ["check", "at", "part", "count", "words", "read"]
+        defined = [(path.name, node.name) for path, tree in trees() for node in tree.body
+                   if isinstance(node, (ast.FunctionDef, ast.ClassDef)) and node.name in interface]
+        self.assertEqual(defined, [("coats.py", name) for name in interface])
+
+    def test_no_name_is_a_method_and_a_value(self):
+        methods = [node.name for path, kind in nodes_of(ast.ClassDef) for node in kind.body
+                   if isinstance(node, ast.FunctionDef)]
+        values = [node.attr for path, node in nodes_of(ast.Attribute) if isinstance(node.ctx, ast.Store)]
+        self.assertEqual([name for name in methods if name in values], [])
+
+    def test_tables_are_only_read_or_copied(self):
+        tables = {node.targets[0].id for path, tree in trees() for node in tree.body
+                  if isinstance(node, ast.Assign) and isinstance(node.value, (ast.Tuple, ast.List, ast.Dict))}
+        for path, tree in trees():
+            read = []
+            for node in ast.walk(tree):
+                if isinstance(node, ast.Subscript):
+                    read.append(node.value)
+                if isinstance(node, ast.Compare):
+                    read.extend(node.comparators)
+                if isinstance(node, (ast.For, ast.comprehension)):
+                    read.append(node.iter)
+                if isinstance(node, ast.Call) and isinstance(node.func, ast.Name) and node.func.id in ("list", "len"):
+                    read.extend(node.args)
+            for node in ast.walk(tree):
+                if isinstance(node, ast.Name) and isinstance(node.ctx, ast.Load) and node.id in tables:
+                    self.assertTrue(any([node is other for other in read]), f"{path}:{node.lineno}")
